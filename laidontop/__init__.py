@@ -1,0 +1,1 @@
+"""Laidontop: whoever takes a book from the pile lays it on top."""
