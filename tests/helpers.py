@@ -67,3 +67,26 @@ def days_of(wants):
     """All days of the wants."""
     names = [book for book, many in wants for _ in range(many)]
     return sorted(set(permutations(names)))
+
+
+def worked_day(wants, day):
+    """(lifted, passings) on the second of two such days, done book by book."""
+    settled = worked(tuple(book for book, _ in wants), day)[0]
+    _, lifts, told = worked(settled, day)
+    return sum(lifts), told
+
+
+def shortest_rows(pile):
+    """{other pile: all rows of the fewest readings that make the pile this one}, by a search in widening rings."""
+    found = {pile: [()]}
+    ring = [pile]
+    while ring:
+        beyond = {}
+        for order in ring:
+            for book in order:
+                to = worked(order, [book])[0]
+                if to not in found:
+                    beyond.setdefault(to, []).extend(row + (book,) for row in found[order])
+        found.update(beyond)
+        ring = list(beyond)
+    return found

@@ -5,7 +5,7 @@ from itertools import permutations
 
 from laidontop.days import are_wants, day_passings, each_day, far_lifted, far_pile
 from laidontop.piles import behind, lifted, passings
-from tests.helpers import ANYTHING, NO_NAMES, days_of, wants_up_to, worked
+from tests.helpers import ANYTHING, NO_NAMES, days_of, wants_up_to, worked, worked_day
 
 FAR = 10 ** 18
 
@@ -159,12 +159,8 @@ class EachDay(unittest.TestCase):
 
     def test_against_the_second_day_worked(self):
         for wants in wants_up_to(6, 4):
-            books = tuple(book for book, _ in wants)
             for day in days_of(wants):
-                settled = worked(books, day)[0]
-                _, lifts, told = worked(settled, day)
-                self.assertEqual(each_day(wants, day), sum(lifts))
-                self.assertEqual(day_passings(wants, day), told)
+                self.assertEqual((each_day(wants, day), day_passings(wants, day)), worked_day(wants, day))
 
     def test_the_kinds_of_what_is_told(self):
         wants, day = (("a", 1), ("b", 1)), ("b", "a")
